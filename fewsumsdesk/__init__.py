@@ -1,0 +1,1 @@
+"""Few sums to a number."""
