@@ -3,6 +3,7 @@
 import unittest
 
 from fewsumsdesk.ways import first
+from helper import CallCase
 
 TOP = 80
 
@@ -26,7 +27,7 @@ def plain_shortest_ways(top):
     return shortest
 
 
-class First(unittest.TestCase):
+class First(CallCase):
     @classmethod
     def setUpClass(cls):
         cls.shortest = plain_shortest_ways(TOP)
@@ -73,18 +74,11 @@ class First(unittest.TestCase):
 
     def test_kind_of_the_answer(self):
         for n in range(1, TOP + 1):
-            answer = first(n)
-            self.assertIs(type(answer), list)
-            self.assertEqual({type(number) for number in answer}, {int})
+            self.holds_kind(first(n))
 
     def test_a_second_call_answers_the_same(self):
         for n in (1, 2, 7, 23, 80):
-            answer = first(n)
-            kept = list(answer)
-            answer.append(7)
-            answer[0] = 99
-            first(81 - n)
-            self.assertEqual(first(n), kept)
+            self.holds_again(first, [n], [81 - n])
 
 
 if __name__ == "__main__":

@@ -9,7 +9,12 @@ import unittest
 import fewsumsdesk.ways
 
 FOLDER = pathlib.Path(fewsumsdesk.ways.__file__).parent
-CALLS = ((fewsumsdesk.ways.is_way, [1, 2, 4, 5, 8]), (fewsumsdesk.ways.first, 23))
+CALLS = (
+    (fewsumsdesk.ways.is_way, [1, 2, 4, 5, 8]),
+    (fewsumsdesk.ways.first, 23),
+    (fewsumsdesk.ways.several, [23, 7, 11]),
+    (fewsumsdesk.ways.vector, [2, 3, 4]),
+)
 
 
 class Package(unittest.TestCase):
