@@ -29,7 +29,23 @@ def several(l):
 def vector(l):
     """Answer how many sums of rows it takes, at the least, to have the row l from the rows with a single one."""
     start = [totalled(row_with_one(len(l), place)) for place in range(len(l))]
-    return [fewest_steps(start, totalled(l), next_rows)]
+    goal = totalled(l)
+    return [fewest_steps(start, goal, lambda rows: next_rows(rows, goal))]
+
+
+def either(n):
+    """Answer how many sums and differences it takes, at the least, to have n from 1."""
+    return [fewest_steps([1], n, sums_and_differences)]
+
+
+def binary(n):
+    """Answer how many sums n's way by bits takes, then this way."""
+    way = [1]
+    for place in reversed(range(n.bit_length() - 1)):
+        way.append(way[-1] + way[-1])
+        if (n >> place) & 1 == 1:
+            way.append(way[-1] + 1)
+    return [len(way) - 1] + way
 
 
 def is_sum_of_two(number, there):
@@ -91,7 +107,7 @@ def is_within(there, goal, left, onward):
         return True
     if left == 0:
         return False
-    for one_more in onward(there, goal):
+    for one_more in onward(there):
         if is_within(there + [one_more], goal, left - 1, onward):
             return True
     return False
@@ -125,3 +141,13 @@ def added(one, other):
 def fits_in(row, goal):
     """Tell whether no number of row is above the goal's at its place: no sum makes a number less again."""
     return all([x <= y for x, y in zip(row, goal)])
+
+
+def sums_and_differences(there):
+    """List the sums of two numbers of there, and the differences to a lesser one, that are not there yet."""
+    found = []
+    for one in there:
+        found.extend([one + other for other in there])
+        found.extend([one - other for other in there if one > other])
+    # None is too great to be of use: a difference may bring it down again.
+    return [number for number in sorted(set(found)) if number not in there]

@@ -14,6 +14,8 @@ CALLS = (
     (fewsumsdesk.ways.first, 23),
     (fewsumsdesk.ways.several, [23, 7, 11]),
     (fewsumsdesk.ways.vector, [2, 3, 4]),
+    (fewsumsdesk.ways.either, 19),
+    (fewsumsdesk.ways.binary, 23),
 )
 
 
