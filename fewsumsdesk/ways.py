@@ -48,6 +48,22 @@ def binary(n):
     return [len(way) - 1] + way
 
 
+def join(a, b):
+    """Answer how many sums the way takes that goes along a, and from a's last number on along b, then this way."""
+    way = a + [number * a[-1] for number in b[1:]]
+    return [len(way) - 1] + way
+
+
+def brauer(c):
+    """Answer how many numbers, less one, lead along the star way c to a power of two less one, then these."""
+    numbers = [1]
+    for k in range(1, len(c)):
+        for doubling in range(c[k] - c[k - 1]):
+            numbers.append(numbers[-1] + numbers[-1])
+        numbers.append((1 << c[k]) - 1)
+    return [len(numbers) - 1] + numbers
+
+
 def is_sum_of_two(number, there):
     """Tell whether number is a sum of two numbers of there, or of one taken twice."""
     return any([(number - one) in there for one in there])

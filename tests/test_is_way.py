@@ -4,31 +4,9 @@ import itertools
 import unittest
 
 from fewsumsdesk.ways import is_way
-from helper import CallCase
+from helper import CallCase, plain_is_way, way_by_bits
 
 TOP = 4294967295
-
-
-def plain_is_way(c):
-    """The document's words, pair by pair."""
-    if not c or c[0] != 1:
-        return 0
-    star = True
-    for k in range(1, len(c)):
-        pairs = [(i, j) for i in range(k) for j in range(k) if c[i] + c[j] == c[k]]
-        if not pairs or not c[k] > c[k - 1]:
-            return 0
-        if all(i != k - 1 for i, j in pairs):
-            star = False
-    return 2 if star else 1
-
-
-def way_by_bits(bits):
-    """A star way of 2 * bits - 1 numbers to the power of two less one."""
-    way = [1]
-    for _ in range(bits - 1):
-        way += [2 * way[-1], 2 * way[-1] + 1]
-    return way
 
 
 class IsWay(CallCase):
