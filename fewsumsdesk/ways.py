@@ -8,7 +8,7 @@ def is_way(c):
     star = True
     for k in range(1, len(c)):
         before = c[:k]
-        if c[k] <= c[k - 1] or not is_sum_of_two(c[k], before):
+        if c[k] <= c[k - 1] or len(parts_within(c[k], before)) == 0:
             return [0]
         if c[k] - c[k - 1] not in before:
             star = False
@@ -41,9 +41,9 @@ def either(n):
 def binary(n):
     """Answer how many sums n's way by bits takes, then this way."""
     way = [1]
-    for place in reversed(range(n.bit_length() - 1)):
+    for place in range(n.bit_length() - 2, -1, -1):
         way.append(way[-1] + way[-1])
-        if (n >> place) & 1 == 1:
+        if (n >> place) % 2 == 1:
             way.append(way[-1] + 1)
     return [len(way) - 1] + way
 
@@ -64,9 +64,19 @@ def brauer(c):
     return [len(numbers) - 1] + numbers
 
 
-def is_sum_of_two(number, there):
-    """Tell whether number is a sum of two numbers of there, or of one taken twice."""
-    return any([(number - one) in there for one in there])
+def power(base, m, c):
+    """Answer one less than how many numbers the way c has, then for each of them base to its power, modulo m."""
+    powers = {1: base % m}
+    # A product of two powers is the power to their sum: one product is enough for each number of a way.
+    for number in c[1:]:
+        one = parts_within(number, list(powers))[0]
+        powers[number] = powers[one] * powers[number - one] % m
+    return [len(c) - 1] + [powers[number] for number in c]
+
+
+def parts_within(number, there):
+    """List those of there that come to number with one of there added, which may be the same."""
+    return [one for one in there if (number - one) in there]
 
 
 def shortest_way(numbers):
